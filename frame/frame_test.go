@@ -175,6 +175,19 @@ func withWord(at int, word string) string {
 	return summed(strings.Join(words[:sumWord], " "))
 }
 
+func TestNumber(t *testing.T) {
+	for word, want := range map[string]int{"0": 0, "7": 7, "-1": -1, "10": 10, "-100": -100, "1048576": 1048576, "9999999": 9999999, "-9999999": -9999999} {
+		if n, ok := frame.Number(word); n != want || !ok {
+			t.Error(word, n, ok)
+		}
+	}
+	for _, word := range []string{"", "-", "x", "+1", "-0", "00", "01", "-01", " 1", "1 ", "1.0", "0x1", "1_0", "10000000", "-10000000", "18446744073709551617"} {
+		if n, ok := frame.Number(word); n != 0 || ok {
+			t.Errorf("%q: %d %t", word, n, ok)
+		}
+	}
+}
+
 func TestReadNoMembers(t *testing.T) {
 	for _, word := range []string{"", "0", "17", "01", "+1", "-1", "--", "x", "2,1", "1,1", "1,", ",1", "1,,2", "1,17", "1,x", "1;2"} {
 		readWrong(t, summed("frame 1 "+word+" 0 0 0"), api.ErrText)
